@@ -1,0 +1,11 @@
+"""How much of everything there may be, at most."""
+
+LATEST_LAST = 60
+MOST_UNITS = 1000000000
+MOST_PERSONS = 5000
+MOST_GOODS = 6
+MOST_PER = 1000
+MOST_LIFE = 100
+MOST_LOTS = 6
+MOST_DAYS = 60
+MOST_BACK = 30
