@@ -61,3 +61,13 @@ def lacks_by_day(good, today, needs):
         lacks.append(trial.lacked - before)
         day += 1
     return lacks
+
+
+def spoils_in_days(good, today, needs):
+    """How much spoils behind the days from today on, a need a day, if nothing more is loaded or given away."""
+    trial = copy_of_good(good)
+    day = today
+    for need in needs:
+        live_day(trial, need, day)
+        day += 1
+    return trial.spoilt - good.spoilt

@@ -1,14 +1,10 @@
-"""The calls that only ask of the voyage: each answers its list of numbers."""
+"""The calls that only ask, and of one good: each answers its list of numbers."""
 
-from shipstores.goods import copy_of_good, lacks_by_day, load
+from shipstores.goods import copy_of_good, load, spoils_in_days
 from shipstores.limits import MOST_UNITS
-from shipstores.refusals import NEVER, NOT_AS_TOLD, NOT_THERE
-from shipstores.ships import has_good, needs_by_day, next_port
-
-
-def lacks_up_to(voyage, good, behind):
-    """How much of the good lacks on each day from today up to the day behind them."""
-    return lacks_by_day(good, voyage.today, needs_by_day(voyage, good, voyage.today, behind))
+from shipstores.lots import units_in
+from shipstores.refusals import NEVER, NO_LOT, NOT_AS_TOLD, NOT_THERE
+from shipstores.ships import has_good, lacks_up_to, needs_by_day, next_port
 
 
 def sd_lasts(voyage, g):
@@ -52,3 +48,40 @@ def sd_need(voyage, g, a, b):
     if b < a or b > voyage.last + 1:
         return [NOT_AS_TOLD]
     return [sum(needs_by_day(voyage, voyage.goods[g], a, b))]
+
+
+def sd_spoils(voyage, g):
+    if not has_good(voyage, g):
+        return [NOT_THERE]
+    good = voyage.goods[g]
+    needs = needs_by_day(voyage, good, voyage.today, next_port(voyage))
+    return [spoils_in_days(good, voyage.today, needs)]
+
+
+def sd_stock(voyage, g):
+    if not has_good(voyage, g):
+        return [NOT_THERE]
+    lots = voyage.goods[g].lots
+    return [units_in(lots), len(lots)]
+
+
+def sd_lot(voyage, g, i):
+    if not has_good(voyage, g):
+        return [NOT_THERE]
+    lots = voyage.goods[g].lots
+    if i >= len(lots):
+        return [NO_LOT]
+    return [lots[i].amount, lots[i].until]
+
+
+def sd_look(voyage, g):
+    if not has_good(voyage, g):
+        return [NOT_THERE]
+    return [voyage.goods[g].per, voyage.goods[g].life]
+
+
+def sd_sums(voyage, g):
+    if not has_good(voyage, g):
+        return [NOT_THERE]
+    good = voyage.goods[g]
+    return [good.loaded, units_in(good.lots), good.eaten, good.spoilt, good.given, good.lacked]

@@ -1,6 +1,7 @@
 """The numbers below 0 that a call answers when it is refused."""
 
 NOT_THERE = -2
+NO_LOT = -6
 LESS_THERE = -12
 NO_PORT = -16
 ALREADY_SO = -17

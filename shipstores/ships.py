@@ -1,6 +1,6 @@
 """The voyage as it stands, and the ship that keeps it with what can be taken back."""
 
-from shipstores.goods import copy_of_good
+from shipstores.goods import copy_of_good, lacks_by_day
 from shipstores.limits import MOST_BACK
 from shipstores.lots import units_in
 
@@ -53,6 +53,16 @@ def begin_change(ship):
     return ship.voyage
 
 
+def take_back(ship):
+    ship.undone.append(ship.voyage)
+    ship.voyage = ship.past.pop()
+
+
+def do_again(ship):
+    ship.past.append(ship.voyage)
+    ship.voyage = ship.undone.pop()
+
+
 def has_good(voyage, g):
     return g < len(voyage.goods)
 
@@ -71,13 +81,22 @@ def next_port(voyage):
     return voyage.last + 1
 
 
+def units_aboard(voyage):
+    return sum([units_in(good.lots) for good in voyage.goods])
+
+
 def room_left(voyage):
-    return voyage.room - sum([units_in(good.lots) for good in voyage.goods])
+    return voyage.room - units_aboard(voyage)
 
 
 def needs_by_day(voyage, good, first, behind):
     """What is needed on each day from the first one up to the day behind them."""
     return [voyage.persons[day] * good.per for day in range(first, behind)]
+
+
+def lacks_up_to(voyage, good, behind):
+    """How much of the good lacks on each day from today up to the day behind them."""
+    return lacks_by_day(good, voyage.today, needs_by_day(voyage, good, voyage.today, behind))
 
 
 def bits_of(signs):

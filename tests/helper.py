@@ -54,6 +54,54 @@ def need(g, a, b):
     return [11, g, a, b]
 
 
+def spoils(g):
+    return [12, g]
+
+
+def stock(g):
+    return [13, g]
+
+
+def lot(g, i):
+    return [14, g, i]
+
+
+def look(g):
+    return [15, g]
+
+
+def who(day):
+    return [16, day]
+
+
+def coming():
+    return [17]
+
+
+def short():
+    return [18]
+
+
+def room():
+    return [19]
+
+
+def sums(g):
+    return [20, g]
+
+
+def back():
+    return [21]
+
+
+def again():
+    return [22]
+
+
+def state():
+    return [23]
+
+
 def split(numbers):
     told = []
     at = 0
@@ -80,11 +128,17 @@ def ask_last(*calls):
 
 
 def whole_look(goods=2, last=10):
-    """Calls that change nothing, and show much of what is kept."""
-    looks = []
-    for g in range(goods):
-        looks.append(lasts(g))
-        looks.append(least(g))
-        for day in range(last + 1):
-            looks.append(need(g, day, day + 1))
+    """Every call that asks of the voyage, at every place: all that can be asked but sd_state."""
+    looks = [coming(), short(), room()]
+    for day in range(last + 2):
+        looks.append(who(day))
+    for g in range(goods + 1):
+        looks.extend([lasts(g), least(g), enough(g, 7), spoils(g), stock(g), look(g), sums(g)])
+        looks.extend([lot(g, i) for i in range(7)])
+        looks.append(need(g, 0, last + 1))
     return looks
+
+
+def changes_left(calls):
+    """How many changes can be taken back and done again behind these calls, as sd_state tells it."""
+    return ask_last(*calls, state())[-2:]

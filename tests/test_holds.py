@@ -1,14 +1,20 @@
 """What holds, on many voyages: against a second, plainer way to reckon, and by what must be the same."""
 
+import copy
 import random
 import unittest
 
-from helper import BIG, UNITS, ask, days, enough, give, good, lasts, least, load, need, persons, port, ration, start
-from helper import whole_look
-from shipstores.changes import sd_days, sd_give, sd_good, sd_load, sd_persons, sd_port, sd_ration, sd_start
-from shipstores.ships import Ship
+from helper import BIG, UNITS, again, ask, back, coming, days, enough, give, good, lasts, least, load, look, lot, need
+from helper import persons, port, ration, room, short, spoils, start, state, stock, sums, who, whole_look
 
 VOYAGES = 400
+# The numbers of the calls that are told of a good, and those that only ask.
+OF_A_GOOD = (4, 5, 6, 8, 9, 10, 11, 12, 13, 14, 15, 20)
+ASKING = (8, 9, 10, 11, 12, 13, 14, 15, 16, 17, 18, 19, 20, 23)
+NAMES = (
+    "start", "good", "persons", "port", "load", "give", "ration", "days", "lasts", "least", "enough", "need", "spoils",
+    "stock", "lot", "look", "who", "next", "short", "room_", "sums",
+)
 
 
 class Plain:
@@ -28,19 +34,17 @@ class Plain:
 
     def answer(self, call):
         number, given = call[0], call[1:]
-        if number == 0:
-            return self.start(*given)
-        if number in (4, 5, 6, 8, 9, 10, 11) and given[0] >= len(self.goods):
+        if number in OF_A_GOOD and given[0] >= len(self.goods):
             return [-2]
-        names = ("good", "persons", "port", "load", "give", "ration", "days", "lasts", "least", "enough", "need")
-        return getattr(self, names[number - 1])(*given)
+        return getattr(self, NAMES[number])(*given)
 
     def good(self, per, life):
         if per not in range(1, 1001) or life not in range(1, 101):
             return [-22]
         if len(self.goods) >= 6:
             return [-28]
-        self.goods.append({"per": per, "life": life, "stock": {}, "ever": 0})
+        self.goods.append({"per": per, "life": life, "stock": {}, "ever": 0, "eaten": 0, "rotten": 0, "gone": 0,
+                           "lacking": 0})
         return [len(self.goods) - 1]
 
     def persons(self, day, n):
@@ -82,6 +86,7 @@ class Plain:
         if sum(stock.values()) < n:
             return [-12]
         take(stock, n)
+        self.goods[g]["gone"] += n
         return [sum(stock.values())]
 
     def ration(self, g, per):
@@ -98,9 +103,13 @@ class Plain:
         lacked = set()
         for day in range(self.today, self.today + n):
             for g, it in enumerate(self.goods):
-                if take(it["stock"], self.aboard[day] * it["per"]) > 0:
+                hunger = self.aboard[day] * it["per"]
+                missing = take(it["stock"], hunger)
+                it["eaten"] += hunger - missing
+                it["lacking"] += missing
+                it["rotten"] += spoil(it["stock"], day)
+                if missing > 0:
                     lacked.add(g)
-                spoil(it["stock"], day)
         self.today += n
         return [self.today, sum(2 ** g for g in lacked), int(self.today in self.harbours)]
 
@@ -152,6 +161,86 @@ class Plain:
             return [-22]
         return [sum(self.aboard[day] * self.goods[g]["per"] for day in range(a, b))]
 
+    def spoils(self, g):
+        """The days go by, on a copy, and then it is looked at what has spoilt."""
+        later = copy.deepcopy(self)
+        while later.today < self.next_port():
+            later.days(1)
+        return [later.goods[g]["rotten"] - self.goods[g]["rotten"]]
+
+    def stock(self, g):
+        return [sum(self.goods[g]["stock"].values()), len(self.goods[g]["stock"])]
+
+    def lot(self, g, i):
+        lots = sorted(self.goods[g]["stock"].items())
+        return [lots[i][1], lots[i][0]] if i < len(lots) else [-6]
+
+    def look(self, g):
+        return [self.goods[g]["per"], self.goods[g]["life"]]
+
+    def who(self, day):
+        return [self.aboard[day], int(day in self.harbours)] if day in self.aboard else [-22]
+
+    def next(self):
+        return [self.next_port(), self.today, int(self.today in self.harbours)]
+
+    def short(self):
+        lacking = [g for g, it in enumerate(self.goods) if not self.feasible(it, it["stock"], self.next_port())]
+        return [len(lacking), sum(2 ** g for g in lacking)]
+
+    def room_(self):
+        there = sum(self.stock(g)[0] for g in range(len(self.goods)))
+        return [self.room - there, there]
+
+    def sums(self, g):
+        it = self.goods[g]
+        return [it["ever"], self.stock(g)[0], it["eaten"], it["rotten"], it["gone"], it["lacking"]]
+
+
+class Replayed:
+    """Keeps the changes as they were told: one is taken back by making all the others anew, from the start on."""
+
+    def __init__(self):
+        self.plain = Plain()
+        self.line = []
+        self.free = 0
+        self.undone = []
+
+    def answer(self, call):
+        if call[0] == 21:
+            return self.back()
+        if call[0] == 22:
+            return self.again()
+        if call[0] == 23:
+            plain = self.plain
+            return [plain.today, plain.last, len(plain.goods), len(plain.harbours), self.free, len(self.undone)]
+        told = self.plain.answer(call)
+        if told[0] >= 0 and call[0] == 0:
+            self.line, self.free, self.undone = [call], 0, []
+        elif told[0] >= 0 and call[0] not in ASKING:
+            self.line.append(call)
+            self.free = min(self.free + 1, 30)
+            self.undone = []
+        return told
+
+    def back(self):
+        if self.free == 0:
+            return [-2]
+        self.undone.append(self.line.pop())
+        self.free -= 1
+        self.plain = Plain()
+        for call in self.line:
+            self.plain.answer(call)
+        return [self.free]
+
+    def again(self):
+        if not self.undone:
+            return [-2]
+        self.line.append(self.undone.pop())
+        self.free += 1
+        self.plain.answer(self.line[-1])
+        return [len(self.undone)]
+
 
 def take(stock, n):
     """Takes n, of what is good for the shortest time first; how much was missing."""
@@ -165,8 +254,8 @@ def take(stock, n):
 
 
 def spoil(stock, day):
-    for until in [until for until in stock if until <= day]:
-        del stock[until]
+    """Takes away what was good up to that day or not as long; how much it was."""
+    return sum(stock.pop(until) for until in list(stock) if until <= day)
 
 
 def some_call(dice, last):
@@ -183,15 +272,29 @@ def some_call(dice, last):
         give(g, amount), give(g, dice.randrange(1, 5)),
         ration(g, dice.choice((0, 1, 2, 3, 4, 1000, 1001))),
         days(dice.choice((0, 1, 1, 1, 1, 1, 2, 3, 61))), days(1),
+        some_question(dice, g, day, amount, last), some_question(dice, g, day, amount, last),
+        some_question(dice, g, day, amount, last), some_question(dice, g, day, amount, last),
+        some_question(dice, g, day, amount, last), some_question(dice, g, day, amount, last),
+        back(), back(), again(), again(),
+    ))
+
+
+def some_question(dice, g, day, amount, last):
+    return dice.choice((
         lasts(g), least(g), enough(g, amount), enough(g, dice.randrange(40)), need(g, day, dice.randrange(last + 3)),
+        spoils(g), stock(g), lot(g, dice.choice((0, 0, 0, 1, 2, 6, BIG))), look(g), who(day), coming(), short(), room(),
+        sums(g), state(),
     ))
 
 
 def many_lots(dice):
     """Few eat, it is long good, and nearly every day is a port."""
     calls = [start(20, 500, dice.randrange(2)), good(1, 50), good(2, 7)] + [port(day) for day in range(1, 15)]
-    for n in range(60):
-        calls.append(dice.choice((load(0, 3), load(1, 5), load(1, 1), days(1), give(0, 2), least(1), lasts(0))))
+    for n in range(90):
+        calls.append(dice.choice((
+            load(0, 3), load(0, 3), load(0, 3), load(1, 5), load(1, 1), days(1), days(1), give(0, 2), least(1), lasts(0),
+            spoils(1), stock(0), lot(0, dice.randrange(7)), sums(1), back(), again(),
+        )))
     return calls
 
 
@@ -208,12 +311,43 @@ def some_calls(dice, count=60):
     return calls
 
 
+def long_line(dice):
+    """1,000 calls: several voyages, and in each of them now and then many changes taken back and done again."""
+    calls = []
+    while len(calls) < 1000:
+        last = dice.choice((20, 40, 60))
+        calls.append(start(last, dice.choice((500, 5000, UNITS)), dice.choice((0, 1, 2))))
+        calls = calls + [good(1, 40), good(2, 3)] + [port(dice.randrange(1, last + 1)) for n in range(last // 3)]
+        for n in range(100):
+            g = dice.randrange(2)
+            calls.append(dice.choice((load(g, dice.randrange(1, 90)), load(g, dice.randrange(1, 30)), days(1))))
+            calls.append(some_call(dice, last))
+            calls.append(some_question(dice, g, dice.randrange(last + 2), dice.randrange(99), last))
+            if dice.random() < 0.02:
+                count = dice.randrange(1, 35)
+                calls = calls + [back()] * count + [again()] * dice.choice((count, count, count + 1, count // 2))
+        calls.append(start(dice.choice((0, 61)), 300, 1))
+    return calls[:1000]
+
+
 class Reckoned(unittest.TestCase):
+    def test_long_lines(self):
+        for seed in range(12):
+            calls = long_line(random.Random(seed))
+            self.assertEqual((len(calls), {call[0] for call in calls}), (1000, set(range(24))))
+            plain = Replayed()
+            done = set()
+            for n, (call, answer) in enumerate(zip(calls, ask(*calls))):
+                self.assertEqual(answer, plain.answer(call), (seed, n, call))
+                if answer[0] >= 0:
+                    done.add(call[0])
+            self.assertEqual(done, set(range(24)), seed)
+
     def test_as_the_plain_way_reckons(self):
         seen = set()
         for seed in range(VOYAGES):
             calls = some_calls(random.Random(seed))
-            plain = Plain()
+            plain = Replayed()
             told = ask(*calls)
             for call, answer in zip(calls, told):
                 self.assertEqual(answer, plain.answer(call), (seed, call))
@@ -224,6 +358,8 @@ class Reckoned(unittest.TestCase):
             (4, 0), (4, -2), (4, -22), (4, -16), (4, -62), (4, -28), (5, 0), (5, -2), (5, -22), (5, -12),
             (6, 0), (6, -2), (6, -22), (7, 0), (7, -22), (7, -75), (8, 0), (8, -2), (8, -33),
             (9, 0), (9, -2), (9, -33), (10, 0), (10, -2), (10, -22), (11, 0), (11, -2), (11, -22),
+            (12, 0), (12, -2), (13, 0), (13, -2), (14, 0), (14, -2), (14, -6), (15, 0), (15, -2), (16, 0), (16, -22),
+            (17, 0), (18, 0), (19, 0), (20, 0), (20, -2), (21, 0), (21, -2), (22, 0), (22, -2), (23, 0),
         })
 
     def test_large_numbers(self):
@@ -235,9 +371,10 @@ class Reckoned(unittest.TestCase):
                     load(0, dice.randrange(1, 10 ** 8)), load(1, dice.randrange(1, 4 * 10 ** 8)), days(1), days(7),
                     port(dice.randrange(61), 1), give(1, dice.randrange(1, 10 ** 7)), lasts(0), lasts(1), least(0),
                     least(1), enough(0, dice.randrange(UNITS)), persons(dice.randrange(61), dice.randrange(5001)),
-                    need(0, 0, 61),
+                    need(0, 0, 61), spoils(0), spoils(1), sums(0), sums(1), lot(0, 0), stock(1), short(), room(), back(),
+                    again(),
                 )))
-            plain = Plain()
+            plain = Replayed()
             self.assertEqual(ask(*calls), [plain.answer(call) for call in calls], seed)
 
 
@@ -251,7 +388,7 @@ class TheSame(unittest.TestCase):
     def test_without_the_questions(self):
         for seed in range(VOYAGES):
             calls = some_calls(random.Random(seed))
-            kept = [(call, answer) for call, answer in zip(calls, ask(*calls)) if call[0] < 8]
+            kept = [(call, answer) for call, answer in zip(calls, ask(*calls)) if call[0] not in ASKING]
             self.assertEqual(ask(*[call for call, answer in kept]), [answer for call, answer in kept], seed)
 
     def test_in_whatever_pieces_days_go_by(self):
@@ -305,45 +442,61 @@ class EachDayAndUnit(unittest.TestCase):
         loads = [load(0, n)] if n > 0 else []
         return ask(*before, *loads, days(coming - 3))[-1][1]
 
-    def test_each_unit(self):
-        calls = {0: sd_start, 1: sd_good, 2: sd_persons, 3: sd_port, 4: sd_load, 5: sd_give, 6: sd_ration, 7: sd_days}
+    def test_what_spoils(self):
+        """Just as much as told: seen in the sums when the days up to the next port have gone by."""
+        spoilt = 0
         for seed in range(VOYAGES):
-            ship = Ship()
-            for call in some_calls(random.Random(seed)):
-                if call[0] in calls:
-                    calls[call[0]](ship, *call[1:])
-                self.look_at(ship.voyage)
-                for was in ship.past[-1:]:
-                    self.look_at(was)
+            calls = some_calls(random.Random(seed))
+            port_ahead, today, sign = ask(*calls, coming())[-1]
+            passing = [days(1)] * (port_ahead - today)
+            told = ask(*calls, good(), spoils(0), spoils(1), sums(0), sums(1), *passing, sums(0), sums(1))
+            told = told[len(calls) + 1:]
+            for g in range(2):
+                if told[g] != [-2]:
+                    self.assertEqual(told[g], [told[g - 2][3] - told[2 + g][3]], seed)
+                    spoilt += told[g][0]
+        self.assertGreater(spoilt, 0)
 
-    def look_at(self, voyage):
-        aboard = 0
-        for it in voyage.goods:
-            there = sum(lot.amount for lot in it.lots)
-            aboard += there
-            self.assertEqual(it.loaded, there + it.eaten + it.spoilt + it.given)
-            self.assertLessEqual(it.loaded, UNITS)
-            untils = [lot.until for lot in it.lots]
+    def test_each_unit(self):
+        for seed in range(VOYAGES):
+            calls = some_calls(random.Random(seed), 40)
+            looks = [sums(0), sums(1), *[lot(g, i) for g in range(2) for i in range(7)], room(), coming()]
+            line = []
+            for call in calls:
+                line = line + [call] + (looks if line else [])
+            told = ask(*line)[1:]
+            for at in range(0, len(told), len(looks) + 1):
+                self.look_at(told[at + 1:at + 1 + len(looks)])
+
+    def look_at(self, told):
+        """Each unit is there, was eaten, spoilt, or was given away; nothing spoilt is there."""
+        today = told[17][1]
+        for g in range(2):
+            lots = [answer for answer in told[2 + 7 * g:9 + 7 * g] if answer[0] >= 0]
+            if told[g] == [-2]:
+                self.assertEqual(lots, [])
+                continue
+            loaded, there, eaten, spoilt, given, lacked = told[g]
+            self.assertEqual(loaded, there + eaten + spoilt + given)
+            self.assertLessEqual(loaded, UNITS)
+            self.assertEqual(there, sum(amount for amount, until in lots))
+            untils = [until for amount, until in lots]
             self.assertEqual(untils, sorted(set(untils)))
             self.assertLessEqual(len(untils), 6)
-            self.assertTrue(all(until >= voyage.today for until in untils), "nothing spoilt is there")
-            self.assertTrue(all(lot.amount > 0 for lot in it.lots))
-        self.assertLessEqual(aboard, voyage.room)
+            self.assertTrue(all(until >= today for until in untils), "nothing spoilt is there")
+        self.assertGreaterEqual(told[16][0], 0, "never too full")
 
-    def test_the_sums(self):
-        ship = Ship()
-        sd_start(ship, 10, 100, 2)
-        sd_good(ship, 3, 2)
-        sd_load(ship, 0, 30)
-        sd_give(ship, 0, 4)
-        sd_days(ship, 5)
-        it = ship.voyage.goods[0]
-        # Six a day on days 0, 1 and 2; the eight left then spoil, and on days 3 and 4 twelve lack.
-        self.assertEqual((it.loaded, it.eaten, it.spoilt, it.given, it.lacked), (30, 18, 8, 4, 12))
-        sd_days(ship, 1)
-        sd_ration(ship, 0, 1)
-        it = ship.voyage.goods[0]
-        self.assertEqual((it.loaded, it.eaten, it.spoilt, it.given, it.lacked), (30, 18, 8, 4, 18))
+    def test_all_taken_back_and_done_again(self):
+        """Of any line: as many as can be are taken back, and done again, and all is as it was on the way."""
+        for seed in range(VOYAGES // 4):
+            calls = some_calls(random.Random(seed), 100)
+            count = ask(*calls, state())[-1][4]
+            looks = whole_look(2, 10) + [state()]
+            seen = [ask(*calls, *[back()] * n, *looks)[len(calls) + n:] for n in range(count + 1)]
+            self.assertEqual(ask(*calls, *[back()] * (count + 1))[-1], [-2])
+            for n in range(count + 1):
+                line = calls + [back()] * count + [again()] * n
+                self.assertEqual(ask(*line, *looks)[len(line):], seen[count - n], (seed, n))
 
 
 if __name__ == "__main__":

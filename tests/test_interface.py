@@ -4,12 +4,14 @@ import subprocess
 import sys
 import unittest
 
-from helper import BIG, days, enough, give, good, lasts, least, load, need, persons, port, ration, start
+from helper import BIG, again, ask, ask_last, back, coming, days, enough, give, good, lasts, least, load, look, lot
+from helper import need, persons, port, ration, room, short, spoils, start, state, stock, sums, who, whole_look
 from shipstores.voyages import answers
 
 LONG = [
     start(10, 1000, 2), good(3, 4), persons(1, 5), port(3), load(0, 50), give(0, 1), ration(0, 2), days(2),
     lasts(0), least(0), enough(0, 5), need(0, 0, 11), load(0, 5), days(1), load(0, 5),
+    spoils(0), stock(0), lot(0, 1), look(0), who(1), coming(), short(), room(), sums(0), back(), state(), again(),
 ]
 
 
@@ -35,7 +37,22 @@ class Written(unittest.TestCase):
             1, -16,         # day 2 is no port
             3, 3, 0, 1,     # day 3, a port
             2, 36, 7,       # 31 and 5 more, those good up to day 7
+            1, 23,          # of 31 up to day 4 eight are eaten; the five up to day 7 are eaten in time
+            2, 36, 2,       # two lots
+            2, 5, 7,        # the second one, good up to day 7
+            2, 2, 4,        # a person eats 2, it is good for 4 days
+            2, 5, 0,        # five were aboard on day 1, no port
+            3, 11, 3, 1,    # no port behind day 3, which is one
+            2, 1, 1,        # good 0 does not last
+            2, 964, 36,     # room for 964 more
+            6, 55, 36, 18, 0, 1, 0,
+            1, 8,           # the last load is taken back: eight changes are left
+            6, 3, 10, 1, 2, 8, 1,
+            1, 0,           # and done again
         ])
+
+    def test_every_call_is_in_it(self):
+        self.assertEqual({call[0] for call in LONG}, set(range(24)))
 
     def test_one_call(self):
         self.assertEqual(answers([0, 5, 5, 5]), [1, 0])
@@ -49,11 +66,30 @@ class Written(unittest.TestCase):
         for number in told:
             self.assertIs(int, type(number))
 
+    def test_the_largest_numbers_in_every_place(self):
+        before = [start(10, 1000, 2), good(3, 4), good(1, 9), load(0, 50), port(3), days(1), persons(4, 1), back()]
+        looks = whole_look() + [state(), again(), state()]
+        without = ask(*before, *looks)[len(before):]
+        for n in (2 ** 31 - 1, 2 ** 31, BIG - 1, BIG):
+            for call, answer in (
+                (spoils(n), [-2]), (stock(n), [-2]), (lot(n, 0), [-2]), (lot(0, n), [-6]), (lot(1, n), [-6]),
+                (lot(n, n), [-2]), (look(n), [-2]), (who(n), [-22]), (sums(n), [-2]),
+            ):
+                told = ask(*before, call, *looks)[len(before):]
+                self.assertEqual(told[0], answer, call)
+                self.assertEqual(told[1:], without, call)
+                self.assertEqual(ask_last(start(60), *[good()] * 6, call), answer, call)
+
     def test_a_thousand_calls(self):
         calls = [start(60, BIG // 5, 1), good(1, 1)] + [load(0, 1), give(0, 1)] * 499
         told = answers(joined(calls))
         self.assertEqual(told[:4], [1, 0, 1, 0])
-        self.assertEqual(told[4:], [2, 1, 1, 1, 0] * 499)
+        # Not assertEqual: the difference of lists as long as these takes it many minutes to write.
+        self.assertTrue(told[4:] == [2, 1, 1, 1, 0] * 499)
+
+    def test_a_thousand_back_and_again(self):
+        calls = [start(60, 1000, 1), good(1, 1)] + [back(), again()] * 499
+        self.assertTrue(answers(joined(calls)) == [1, 0, 1, 0] * 500)
 
 
 class NothingChangedOrKept(unittest.TestCase):
